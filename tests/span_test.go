@@ -606,16 +606,16 @@ func TestSpanTidyAnyOrder(t *testing.T) {
 	}
 }
 
-// forEachOrder visits the permutations of the rows from an index on.
-func forEachOrder(m [][]int, from int, visit func(m [][]int)) {
-	if from >= len(m) {
-		visit(m)
+// forEachOrder visits the permutations of a list from an index on.
+func forEachOrder[T any](list []T, from int, visit func(list []T)) {
+	if from >= len(list) {
+		visit(list)
 		return
 	}
-	for i := from; i < len(m); i++ {
-		m[from], m[i] = m[i], m[from]
-		forEachOrder(m, from+1, visit)
-		m[from], m[i] = m[i], m[from]
+	for i := from; i < len(list); i++ {
+		list[from], list[i] = list[i], list[from]
+		forEachOrder(list, from+1, visit)
+		list[from], list[i] = list[i], list[from]
 	}
 }
 

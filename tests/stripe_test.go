@@ -575,11 +575,7 @@ func TestStripeWriteEachStripe(t *testing.T) {
 	forEachStripe(func(c stripeCase) {
 		number++
 		for _, set := range []int{0, 255, number % 256, (number * 37) % 256} {
-			which := make([]bool, 8)
-			for at := range which {
-				which[at] = set>>at&1 == 1
-			}
-			checkStripeWrite(t, c, all[number%len(all)], which)
+			checkStripeWrite(t, c, all[number%len(all)], flagsOfSet(set))
 		}
 	})
 }
